@@ -1,0 +1,1 @@
+"""Mechanisms with transfers: truthful payments and cyclic monotonicity."""

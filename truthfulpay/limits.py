@@ -1,0 +1,15 @@
+"""The codes of the refusals, and the limits that are narrower than what may be handed in."""
+
+NO_SUCH_MEMBER = -2
+NO_INSTANCE = -11
+NOT_READY = -16
+INVALID = -22
+TOO_MANY_KINDS = -28
+
+FEWEST_AGENTS = 1
+MOST_AGENTS = 3
+FEWEST_ALTERNATIVES = 2
+MOST_ALTERNATIVES = 4
+MOST_KINDS = 4
+GREATEST_VALUE = 50
+GREATEST_FACTOR = 99

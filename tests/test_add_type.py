@@ -108,7 +108,7 @@ class AddTypeRefused(unittest.TestCase):
         refused.extend([add_type(1, values) for values in BAD_VALUES])
         refused.extend([add_type(0, values) for values in BAD_VALUES])
         expected = run(first + probe([4, 2], 2))[len(first):]
-        self.assertEqual(expected[:8], [[1], [1], [0], [0], [0], [0], [1], [1]])
+        self.assertEqual(expected[:9], [[2, 2, 4, 2], [1], [1], [0], [0], [0], [0], [1], [1]])
         for call in refused:
             calls = first + [call]
             self.assertLess(run(calls)[-1][0], 0)

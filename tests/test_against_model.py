@@ -9,12 +9,14 @@ import itertools
 import unittest
 
 from tests.helper import (
-    LARGEST, LARGEST_VALUE, SMALLEST_VALUE, add_type, allocation, create, misreport_loss, run,
-    set_allocation, use_affine_maximizer, use_agent_maximizer, use_welfare_maximizer)
+    LARGEST, LARGEST_VALUE, Numbers, SMALLEST_VALUE, add_type, allocation, are_truthful_payments, begun,
+    begun_with_losses, create, describe, is_cyclically_monotonic, is_weakly_monotonic, misreport_loss,
+    payment_bounds, pivot_payments, profiles, run, set_allocation, use_affine_maximizer, use_agent_maximizer,
+    use_welfare_maximizer, welfare)
 
 
 class Model:
-    """The document's state and operations 0 to 7."""
+    """The document's state and its operations."""
 
     def __init__(self):
         self.types = None
@@ -27,6 +29,8 @@ class Model:
             return [-11]
         if operation == 1:
             return self.add_type(rest[0], rest[2:])
+        if operation == 14:
+            return [len(self.types), len(self.alternatives)] + [len(kinds) for kinds in self.types]
         if not all(self.types):
             return [-16]
         if operation in (4, 5, 6):
@@ -35,7 +39,16 @@ class Model:
             return self.set_allocation(rest[0], tuple(rest[2:]))
         if operation == 3:
             return [self.chosen.get(tuple(rest[1:]), -22)]
-        return self.misreport_loss(rest[0], rest[1], tuple(rest[3:]))
+        if operation == 7:
+            return self.misreport_loss(rest[0], rest[1], tuple(rest[3:]))
+        if operation in (8, 9):
+            return self.violation(4 if operation == 8 else 2)
+        if operation == 10:
+            return self.payment_bounds(rest[0], tuple(rest[2:]))
+        if operation == 11:
+            end = 2 + rest[1]
+            return self.are_truthful_payments(rest[0], tuple(rest[2:end]), rest[end + 1:])
+        return self.sums(operation, tuple(rest[1:]))
 
     def create(self, agent_count, alternative_count):
         if agent_count not in (1, 2, 3) or alternative_count not in (2, 3, 4):
@@ -89,23 +102,84 @@ class Model:
             return [-2]
         if profile not in self.chosen:
             return [-22]
-        dishonest = list(profile)
-        dishonest[agent] = other
-        values = self.types[agent][profile[agent]]
-        return [0, values[self.chosen[profile]] - values[self.chosen[tuple(dishonest)]]]
+        return [0, self.loss(agent, profile, profile[agent], other)]
+
+    def loss(self, agent, profile, kind, reported):
+        values = self.types[agent][kind]
+        honest, dishonest = [profile[:agent] + (report,) + profile[agent + 1:] for report in (kind, reported)]
+        return values[self.chosen[honest]] - values[self.chosen[dishonest]]
+
+    def negative_cycles(self, agent, profile, most):
+        found = []
+        for size in range(2, most + 1):
+            for cycle in itertools.permutations(range(len(self.types[agent])), size):
+                turned = cycle[1:] + cycle[:1]
+                length = sum(self.loss(agent, profile, kind, reported) for kind, reported in zip(turned, cycle))
+                if cycle[0] == min(cycle) and length < 0:
+                    found.append((size, cycle))
+        return sorted(found)
+
+    def violation(self, most):
+        found = [(agent, profile, cycle) for agent in range(len(self.types)) for profile in self.chosen
+                 if profile[agent] == 0 for cycle in self.negative_cycles(agent, profile, most)]
+        if not found:
+            return [1]
+        agent, profile, cycle = min(found)
+        return [0, agent] + list(profile) + list(cycle[1])
+
+    def shortest(self, agent, profile, start, end):
+        between = [kind for kind in range(len(self.types[agent])) if kind not in (start, end)]
+        lengths = []
+        for size in range(len(between) + 1):
+            for middle in itertools.permutations(between, size):
+                path = [start] + list(middle) + [end]
+                lengths.append(sum(self.loss(agent, profile, far, near) for near, far in zip(path, path[1:])))
+        return min(lengths)
+
+    def payment_bounds(self, agent, profile):
+        if agent >= len(self.types):
+            return [-2]
+        if profile not in self.chosen:
+            return [-22]
+        if self.negative_cycles(agent, profile, 4):
+            return [-33]
+        kind = profile[agent]
+        return [0, self.shortest(agent, profile, 0, kind), -self.shortest(agent, profile, kind, 0)]
+
+    def are_truthful_payments(self, agent, profile, payments):
+        if agent >= len(self.types):
+            return [-2]
+        kinds = range(len(self.types[agent]))
+        if profile not in self.chosen or len(payments) != len(kinds):
+            return [-22]
+        if any(not -1000 <= payment <= 1000 for payment in payments):
+            return [-22]
+        pairs = itertools.product(kinds, repeat=2)
+        return [int(all(payments[k] - payments[l] <= self.loss(agent, profile, k, l) for k, l in pairs))]
+
+    def sums(self, operation, profile):
+        if profile not in self.chosen:
+            return [-22]
+        values = [kinds[kind] for kinds, kind in zip(self.types, profile)]
+        chosen = self.chosen[profile]
+        if operation == 13:
+            totals = [sum(row[alternative] for row in values) for alternative in self.alternatives]
+            return [chosen, totals[chosen], max(totals)]
+        payments = []
+        for agent in range(len(values)):
+            others = values[:agent] + values[agent + 1:]
+            totals = [sum(row[alternative] for row in others) for alternative in self.alternatives]
+            payments.append(max(totals) - totals[chosen])
+        return [len(values)] + payments
 
 
-class Maker:
+class Maker(Numbers):
     """Calls of many kinds, most of which are not refused."""
 
     def __init__(self, seed):
-        self.state = seed
+        super().__init__(seed)
         self.agent_count = 2
         self.alternative_count = 2
-
-    def below(self, limit):
-        self.state = (self.state * 6364136223846793005 + 1442695040888963407) % 2 ** 64
-        return (self.state >> 33) % limit
 
     def seldom(self):
         return self.below(25) == 0
@@ -144,7 +218,7 @@ class Maker:
         return calls
 
     def call(self):
-        choice = self.below(60)
+        choice = self.below(100)
         if choice == 0:
             return self.create()
         if choice == 1:
@@ -161,13 +235,37 @@ class Maker:
             return use_affine_maximizer([self.number(limit) for place in range(self.length(usual, 12))])
         if choice < 44:
             return use_agent_maximizer(self.number(self.agent_count))
-        return misreport_loss(self.number(self.agent_count), self.number(3), self.profile(8))
+        if choice < 60:
+            return misreport_loss(self.number(self.agent_count), self.number(3), self.profile(8))
+        return self.question(choice - 60)
+
+    def question(self, choice):
+        if choice < 6:
+            return is_cyclically_monotonic()
+        if choice < 10:
+            return is_weakly_monotonic()
+        if choice < 20:
+            return payment_bounds(self.number(self.agent_count), self.profile(8))
+        if choice < 28:
+            payments = [self.payment() for place in range(self.length(2 + self.below(2), 8))]
+            return are_truthful_payments(self.number(self.agent_count), self.profile(8), payments)
+        if choice < 33:
+            return pivot_payments(self.profile(12))
+        if choice < 38:
+            return welfare(self.profile(12))
+        return describe()
+
+    def payment(self):
+        if self.below(40) == 0:
+            return (1000, -1000, 1001, -1001, LARGEST_VALUE, SMALLEST_VALUE)[self.below(6)]
+        return self.between(-3, 3)
 
 
 class AgainstModel(unittest.TestCase):
     def test_mixed_calls(self):
         counted = {}
-        for seed in range(60):
+        results = {}
+        for seed in range(80):
             maker = Maker(seed)
             calls = []
             while len(calls) < 300:
@@ -180,12 +278,70 @@ class AgainstModel(unittest.TestCase):
             for call, answer in zip(calls, expected):
                 sort = (call[0], min(answer[0], 0))
                 counted[sort] = counted.get(sort, 0) + 1
+                if call[0] in (8, 9, 11):
+                    results[(call[0], answer[0])] = results.get((call[0], answer[0]), 0) + 1
         # A sweep that is refused throughout would tell nothing.
-        for operation in range(8):
+        for operation in range(15):
             self.assertGreater(counted.get((operation, 0), 0), 100)
         for operation, code in [(0, -22), (1, -2), (1, -22), (1, -28), (2, -22), (3, -22), (5, -22), (6, -2),
-                                (7, -2), (7, -22), (2, -16), (3, -16), (7, -16)]:
+                                (7, -2), (7, -22), (10, -2), (10, -22), (10, -33), (11, -2), (11, -22), (12, -22),
+                                (13, -22)] + [(operation, -16) for operation in range(2, 14)]:
             self.assertGreater(counted.get((operation, code), 0), 0)
+        for operation in (8, 9, 11):
+            for result in (0, 1):
+                self.assertGreater(results.get((operation, result), 0), 20)
+
+    def test_four_types_for_each_agent(self):
+        bounds, sizes = {}, {}
+        for seed in range(60):
+            numbers = Numbers(seed)
+            agent_count = numbers.between(1, 3)
+            calls = self.changed_from_an_affine_maximizer(numbers, agent_count)
+            model = Model()
+            expected = [model.answer(call) for call in calls]
+            self.assertEqual(run(calls), expected)
+            for call, answer in zip(calls, expected):
+                if call[0] == 10:
+                    bounds[len(answer)] = bounds.get(len(answer), 0) + 1
+                if call[0] == 8:
+                    size = max(0, len(answer) - 2 - agent_count)
+                    sizes[size] = sizes.get(size, 0) + 1
+        # Truthful payments or none; monotonic or not.
+        for count in (bounds[1], bounds[3], sizes[0], sizes[2]):
+            self.assertGreater(count, 5)
+
+    def changed_from_an_affine_maximizer(self, numbers, agent_count):
+        alternative_count = numbers.between(3, 4)
+        types = numbers.types([4] * agent_count, alternative_count, (1, 3, 20)[numbers.below(3)])
+        calls = begun(types) + [use_affine_maximizer([1] * (agent_count + alternative_count))]
+        for profile in profiles([4] * agent_count)[:numbers.below(60)]:
+            if numbers.below(6) == 0:
+                calls.append(set_allocation(numbers.below(alternative_count), profile))
+                calls.extend([is_cyclically_monotonic(), is_weakly_monotonic()])
+            calls.extend([payment_bounds(agent, profile) for agent in range(agent_count)])
+        return calls
+
+    def test_cycles_of_two_types_that_are_hardly_negative(self):
+        sizes = {}
+        for seed in range(400):
+            calls = begun_with_losses(self.nearly_opposite_losses(Numbers(seed)))
+            calls.extend([is_cyclically_monotonic(), is_weakly_monotonic()])
+            calls.extend([payment_bounds(0, [kind]) for kind in range(4)])
+            model = Model()
+            expected = [model.answer(call) for call in calls]
+            self.assertEqual(run(calls), expected)
+            size = max(0, len(expected[-6]) - 3)
+            sizes[size] = sizes.get(size, 0) + 1
+        for size in (0, 2, 3, 4):
+            self.assertGreater(sizes.get(size, 0), 5)
+
+    def nearly_opposite_losses(self, numbers):
+        # What one type gains by reporting another, the other mostly loses by reporting the one, or a little more.
+        found = [[0] * 4 for kind in range(4)]
+        for kind, reported in itertools.combinations(range(4), 2):
+            found[kind][reported] = numbers.between(-5, 5)
+            found[reported][kind] = numbers.between(-1, 6) - found[kind][reported]
+        return found
 
 
 if __name__ == "__main__":

@@ -4,10 +4,11 @@ import unittest
 
 from tests.helper import (
     INVALID, LARGEST, LARGEST_VALUE, NOT_READY, NO_INSTANCE, NO_SUCH_MEMBER, SMALLEST_VALUE,
-    add_type, allocation, answer_after, create, misreport_loss, probe, run, set_allocation,
-    use_affine_maximizer, use_agent_maximizer, use_welfare_maximizer)
+    add_type, allocation, answer_after, are_truthful_payments, create, describe, is_cyclically_monotonic,
+    is_weakly_monotonic, misreport_loss, payment_bounds, pivot_payments, probe, run, set_allocation,
+    use_affine_maximizer, use_agent_maximizer, use_welfare_maximizer, welfare)
 
-# Each of the operations 1 to 7 with arguments that would do, and with ones that are wrong.
+# Each of the operations 1 to 14 with arguments that would do, and with ones that are wrong.
 CALLS_BUT_CREATE = [
     add_type(0, [0, 0]), add_type(LARGEST, [LARGEST_VALUE, SMALLEST_VALUE]), add_type(0, []),
     set_allocation(0, [0]), set_allocation(LARGEST, [LARGEST] * 8), set_allocation(0, []),
@@ -16,6 +17,14 @@ CALLS_BUT_CREATE = [
     use_affine_maximizer([1, 0, 0]), use_affine_maximizer([LARGEST] * 12), use_affine_maximizer([]),
     use_agent_maximizer(0), use_agent_maximizer(LARGEST),
     misreport_loss(0, 0, [0]), misreport_loss(LARGEST, LARGEST, [LARGEST] * 8), misreport_loss(0, 0, []),
+    is_cyclically_monotonic(),
+    is_weakly_monotonic(),
+    payment_bounds(0, [0]), payment_bounds(LARGEST, [LARGEST] * 8), payment_bounds(0, []),
+    are_truthful_payments(0, [0], [0]), are_truthful_payments(LARGEST, [LARGEST] * 8, [SMALLEST_VALUE] * 8),
+    are_truthful_payments(0, [], []), are_truthful_payments(0, [0], [1001]),
+    pivot_payments([0]), pivot_payments([LARGEST] * 12), pivot_payments([]),
+    welfare([0]), welfare([LARGEST] * 12), welfare([]),
+    describe(),
 ]
 
 

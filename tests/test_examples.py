@@ -1,9 +1,10 @@
-"""The rows of the document's examples whose operations have landed, in their order."""
+"""The rows of the document's examples, in their order, as one list of calls."""
 
 import unittest
 
 from tests.helper import (
-    add_type, allocation, create, misreport_loss, run, set_allocation, use_welfare_maximizer)
+    add_type, allocation, are_truthful_payments, create, is_cyclically_monotonic, is_weakly_monotonic,
+    misreport_loss, payment_bounds, pivot_payments, run, set_allocation, use_welfare_maximizer, welfare)
 
 
 class Examples(unittest.TestCase):
@@ -16,9 +17,16 @@ class Examples(unittest.TestCase):
             (use_welfare_maximizer(), [0]),
             (allocation([0, 0]), [1]),
             (allocation([1, 0]), [0]),
+            (is_cyclically_monotonic(), [1]),
             (misreport_loss(0, 1, [0, 0]), [0, 10]),
+            (payment_bounds(0, [1, 0]), [0, -4, -10]),
+            (pivot_payments([0, 0]), [2, 6, 0]),
+            (are_truthful_payments(0, [0, 0], [6, 0]), [1]),
+            (welfare([1, 0]), [0, 6, 6]),
             (set_allocation(0, [0, 0]), [1]),
             (set_allocation(1, [1, 0]), [0]),
+            (is_weakly_monotonic(), [0, 0, 0, 0, 0, 1]),
+            (payment_bounds(0, [1, 0]), [-33]),
         ]
         self.assertEqual(run([row[0] for row in rows]), [row[1] for row in rows])
 

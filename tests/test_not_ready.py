@@ -1,13 +1,14 @@
-"""The operations 2 to 7 while an agent has no type."""
+"""The operations 2 to 13 while an agent has no type."""
 
 import unittest
 
 from tests.helper import (
-    INVALID, LARGEST, NOT_READY, NO_SUCH_MEMBER, add_type, allocation, answer_after, create,
-    misreport_loss, probe, run, set_allocation, use_affine_maximizer, use_agent_maximizer,
-    use_welfare_maximizer)
+    INVALID, LARGEST, LARGEST_VALUE, NOT_READY, NO_SUCH_MEMBER, SMALLEST_VALUE, add_type, allocation,
+    answer_after, are_truthful_payments, create, describe, is_cyclically_monotonic, is_weakly_monotonic,
+    misreport_loss, payment_bounds, pivot_payments, probe, run, set_allocation, use_affine_maximizer,
+    use_agent_maximizer, use_welfare_maximizer, welfare)
 
-# Each of the operations 2 to 7 with arguments that would do, and with each of its errors.
+# Each of the operations 2 to 13 with arguments that would do, and with each of its errors.
 CALLS_THAT_WAIT = [
     set_allocation(0, [0, 0, 0]), set_allocation(2, [0, 0, 0]), set_allocation(LARGEST, [LARGEST] * 8),
     set_allocation(0, []),
@@ -19,6 +20,15 @@ CALLS_THAT_WAIT = [
     use_agent_maximizer(LARGEST),
     misreport_loss(0, 0, [0, 0, 0]), misreport_loss(3, 0, [0, 0, 0]), misreport_loss(0, 4, [0, 0, 0]),
     misreport_loss(0, 0, []), misreport_loss(LARGEST, LARGEST, [LARGEST] * 8),
+    is_cyclically_monotonic(),
+    is_weakly_monotonic(),
+    payment_bounds(0, [0, 0, 0]), payment_bounds(3, [0, 0, 0]), payment_bounds(1, [0, 0]),
+    payment_bounds(2, [4, 0, 0]), payment_bounds(LARGEST, [LARGEST] * 8),
+    are_truthful_payments(0, [0, 0, 0], [0]), are_truthful_payments(0, [0, 0, 0], []),
+    are_truthful_payments(3, [0, 0, 0], [0]), are_truthful_payments(1, [0, 0, 0], [1001]),
+    are_truthful_payments(LARGEST, [LARGEST] * 8, [SMALLEST_VALUE, LARGEST_VALUE] * 4),
+    pivot_payments([0, 0, 0]), pivot_payments([]), pivot_payments([LARGEST] * 12),
+    welfare([0, 0, 0]), welfare([]), welfare([LARGEST] * 12),
 ]
 
 
@@ -33,8 +43,9 @@ class NotReady(unittest.TestCase):
         for call in CALLS_THAT_WAIT:
             self.assertEqual(answer_after([create(1, 2)], call), NOT_READY)
 
-    def test_add_type_and_create_do_not_wait(self):
+    def test_add_type_create_and_describe_do_not_wait(self):
         first = [create(2, 2)]
+        self.assertEqual(answer_after(first, describe()), [2, 2, 0, 0])
         self.assertEqual(answer_after(first, add_type(1, [0, 0])), [0])
         self.assertEqual(answer_after(first, add_type(2, [0, 0])), NO_SUCH_MEMBER)
         self.assertEqual(answer_after(first, add_type(0, [0])), INVALID)

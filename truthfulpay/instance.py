@@ -32,9 +32,13 @@ class Instance:
         """Tell whether there is an agent of this number."""
         return 0 <= agent < self.agent_count
 
+    def kind_count(self, agent):
+        """Tell how many kinds the agent has."""
+        return len(self.valuations[agent])
+
     def has_kind(self, agent, kind):
         """Tell whether the agent, which there is, has this kind."""
-        return 0 <= kind < len(self.valuations[agent])
+        return 0 <= kind < self.kind_count(agent)
 
     def has_alternative(self, alternative):
         """Tell whether there is an alternative of this number."""
@@ -75,11 +79,16 @@ class Instance:
         """Tell what is allocated if the agent reports this kind, the others as in the profile."""
         return self.allocated(profile[:agent] + [kind] + profile[agent + 1:])
 
-    def loss(self, agent, profile, kind, reported):
-        """Tell what the kind loses, ahead of payments, when it reports the other kind."""
-        honest = self.allocated_if(agent, kind, profile)
-        dishonest = self.allocated_if(agent, reported, profile)
-        return self.value(agent, kind, honest) - self.value(agent, kind, dishonest)
+    def losses(self, agent, profile):
+        """For each kind of the agent, list what it loses by each report, ahead of payments.
+
+        The others report as in the profile; what the agent reports there makes no difference.
+        """
+        chosen = [self.allocated_if(agent, kind, profile) for kind in range(self.kind_count(agent))]
+        found = []
+        for valuation, honest in zip(self.valuations[agent], chosen):
+            found.append([valuation[honest] - valuation[dishonest] for dishonest in chosen])
+        return found
 
     def append_kind(self, agent, valuation):
         """Give the agent one more kind, and allocate alternative 0 to every profile."""

@@ -7,9 +7,18 @@ ALLOCATION = 3
 USE_WELFARE_MAXIMIZER = 4
 USE_AFFINE_MAXIMIZER = 5
 USE_AGENT_MAXIMIZER = 6
+MISREPORT_LOSS = 7
+IS_CYCLICALLY_MONOTONIC = 8
+IS_WEAKLY_MONOTONIC = 9
+PAYMENT_BOUNDS = 10
+ARE_TRUTHFUL_PAYMENTS = 11
+PIVOT_PAYMENTS = 12
+# 13, welfare, needs no name: it is told by being none of the others.
+DESCRIBE = 14
 
 # For each operation how many single numbers it has, and then how many rows.
-SHAPES = ((2, 0), (1, 1), (1, 1), (0, 1), (0, 0), (0, 1), (1, 0), (2, 1))
+SHAPES = ((2, 0), (1, 1), (1, 1), (0, 1), (0, 0), (0, 1), (1, 0), (2, 1),
+          (0, 0), (0, 0), (1, 1), (1, 2), (0, 1), (0, 1), (0, 0))
 
 
 def read_calls(calls):
